@@ -1,0 +1,1 @@
+"""Copyarms: arms that copy drawings greater or less, turned or mirrored."""
