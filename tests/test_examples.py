@@ -42,6 +42,60 @@ DRAWINGS = '''
 [(1, 1), (0, 1)]
 '''
 
+ARMS = '''
+>>> from copyarms.arms import Arm, trace
+>>> from copyarms.drawings import Drawing
+>>> arm = Arm((1, 0, 1), (2, 0, 1), 0, 2)
+>>> copy = arm.effect
+>>> [copy((2, 1, 1)), arm.reaches((3, 0, 1)), trace(arm, Drawing(((1, 1, 1), (2, 0, 1))))[0]]
+[(3, 2, 1), True, ((1, 2, 1), (3, 0, 1))]
+
+>>> from copyarms.arms import Arm, trace
+>>> from copyarms.drawings import Drawing
+>>> arm = Arm((0, 0, 1), (1, 0, 1), 1, 5)
+>>> trace(arm, Drawing(((3, 0, 1), (3, 1, 1)), ((-2, 0, 1), (2, 0, 1))))
+raises OutOfReach(arm=0, stroke=1, part=0)
+'''
+
+CHAINS = '''
+>>> from copyarms.arms import Arm
+>>> from copyarms.chains import Chain, single, zones
+>>> chain = Chain(Arm((0, 0, 1), (2, 0, 1), 0, 9), Arm((4, 0, 1), (0, 1, 1), 1, 9))
+>>> copy = chain.effect
+>>> [copy((1, 0, 1)), zones(chain), single(chain).pole]
+[(4, -2, 1), [((0, 0, 1), (0, 1), (81, 1)), ((2, 0, 1), (1, 4), (81, 4))], (12, 4, 5)]
+
+>>> from copyarms.arms import Arm
+>>> from copyarms.chains import Chain, reachable_spots
+>>> reachable_spots(Chain(Arm((0, 0, 1), (1, 0, 1), 1, 1)), 2)
+[(-1, 0, 1), (0, -1, 1), (0, 1, 1), (1, 0, 1)]
+
+>>> from copyarms.arms import Arm
+>>> from copyarms.chains import Chain
+>>> from copyarms.drawings import Drawing
+>>> chain = Chain(Arm((0, 0, 1), (2, 0, 1), 0, 9), Arm((4, 0, 1), (0, 1, 1), 1, 9))
+>>> chain.draw(Drawing(((2, 0, 1),)))
+raises OutOfReach(arm=1, stroke=0, part=0)
+'''
+
+REPEATS = '''
+>>> from copyarms.copies import Copy
+>>> from copyarms.drawings import Drawing
+>>> from copyarms.repeats import first_within, repeated_ink
+>>> half = Copy((1, 0, 2), (0, 0, 1))
+>>> line = Drawing(((4, 0, 1), (8, 0, 1)))
+>>> [repeated_ink(half, line, 2), first_within(half, line, Drawing(((0, 0, 1), (3, 0, 1))), 5)]
+[((), (((1, 0, 1), (8, 0, 1)),)), 2]
+'''
+
+LIKENESS = '''
+>>> from copyarms.drawings import Drawing
+>>> from copyarms.likeness import symmetries, ways
+>>> square = Drawing(((0, 0, 1), (1, 0, 1), (1, 1, 1), (0, 1, 1), (0, 0, 1)))
+>>> [len(symmetries(square)), symmetries(Drawing(((3, 3, 1),))), ways(square, Drawing(((0, 0, 1), (2, 0, 1))))]
+[8, None, []]
+'''
+
 
 def outcome(rows):
     """What the last of some rows gives, written as the document writes it."""
@@ -68,3 +122,15 @@ class Examples(unittest.TestCase):
 
     def test_drawings(self):
         self.check(DRAWINGS, 3)
+
+    def test_arms(self):
+        self.check(ARMS, 2)
+
+    def test_chains(self):
+        self.check(CHAINS, 3)
+
+    def test_repeats(self):
+        self.check(REPEATS, 1)
+
+    def test_likeness(self):
+        self.check(LIKENESS, 1)

@@ -104,6 +104,29 @@ class Language(unittest.TestCase):
                    if isinstance(part, ast.FunctionDef)}
         self.assertEqual(attributes & methods, set())
 
+    def test_no_property_is_called_or_starred(self):
+        properties = {part.name for _, node in nodes(ast.ClassDef) for part in node.body
+                      if isinstance(part, ast.FunctionDef) and part.decorator_list}
+        for name, node in nodes((ast.Call, ast.Starred)):
+            used = node.func if isinstance(node, ast.Call) else node.value
+            self.assertFalse(isinstance(used, ast.Attribute) and used.attr in properties, (name, node.lineno))
+
+    def test_no_two_files_import_from_each_other(self):
+        waiting = {name: {node.module.removeprefix("copyarms.") + ".py" for node in ast.walk(tree)
+                          if isinstance(node, ast.ImportFrom)} for name, tree in TREES.items()}
+        while waiting:
+            ready = [name for name, needed in waiting.items() if not needed & set(waiting)]
+            self.assertNotEqual(ready, [], sorted(waiting))
+            for name in ready:
+                del waiting[name]
+
+    def test_attributes_that_are_read_are_assigned_or_defined(self):
+        known = {node.attr for _, node in nodes(ast.Attribute) if isinstance(node.ctx, ast.Store)}
+        known |= {node.name for _, node in nodes(ast.FunctionDef)}
+        for name, node in nodes(ast.Attribute):
+            self.assertTrue(node.attr in known or any([hasattr(kind, node.attr) for kind in (str, list, dict)]),
+                            (name, node.attr))
+
     def test_statements_and_values(self):
         self.assertEqual(nodes(BARRED_NODES), [])
         for name, node in nodes(ast.Constant):
