@@ -96,6 +96,41 @@ LIKENESS = '''
 [8, None, []]
 '''
 
+WEBS = '''
+>>> from copyarms.drawings import Drawing
+>>> from copyarms.webs import least_strokes, pieces, regions
+>>> cross = Drawing(((0, 0, 1), (2, 2, 1)), ((0, 2, 1), (2, 0, 1)), ((9, 9, 1),))
+>>> square = Drawing(((0, 0, 1), (1, 0, 1), (1, 1, 1), (0, 1, 1), (0, 0, 1)))
+>>> [pieces(cross), regions(cross), least_strokes(cross), pieces(square), regions(square), least_strokes(square)]
+[2, 1, 3, 1, 2, 1]
+'''
+
+BOXES = '''
+>>> from copyarms.arms import Arm
+>>> from copyarms.boxes import copy_count, drawable_rows, rows_for
+>>> from copyarms.copies import Copy
+>>> from copyarms.drawings import Drawing
+>>> box = (Arm((0, 0, 1), (2, 0, 1), 0, 9), Arm((0, 0, 1), (1, 0, 2), 0, 9))
+>>> [copy_count(box), rows_for(box, Copy((1, 0, 1), (0, 0, 1))), drawable_rows(box, Drawing(((8, 0, 1),)))]
+[3, [(), (0, 1), (1, 0)], [(), (0,), (1,), (1, 0)]]
+'''
+
+POLES = '''
+>>> from copyarms.poles import poles
+>>> pairs = (((1, 0, 1), (3, 0, 1)),)
+>>> [poles((2, 0, 1), pairs), poles((1, 0, 1), pairs), poles((-1, 0, 1), pairs, mirrored=True)]
+[('spot', (-1, 0, 1)), ('none',), ('line', 1, 0, 2)]
+'''
+
+GUESSES = '''
+>>> from copyarms.arms import Arm
+>>> from copyarms.guesses import Guess
+>>> box = (Arm((0, 0, 1), (2, 0, 1), 0, 9), Arm((0, 0, 1), (1, 0, 2), 0, 9))
+>>> guess = Guess(box, 2)
+>>> [guess.see((4, 0, 1), (4, 0, 1)), guess.candidates, guess.copies_left, guess.answers((8, 0, 1))]
+[3, [(), (0, 1), (1, 0)], 1, [None, (8, 0, 1)]]
+'''
+
 
 def outcome(rows):
     """What the last of some rows gives, written as the document writes it."""
@@ -134,3 +169,15 @@ class Examples(unittest.TestCase):
 
     def test_likeness(self):
         self.check(LIKENESS, 1)
+
+    def test_webs(self):
+        self.check(WEBS, 1)
+
+    def test_boxes(self):
+        self.check(BOXES, 1)
+
+    def test_poles(self):
+        self.check(POLES, 1)
+
+    def test_guesses(self):
+        self.check(GUESSES, 1)

@@ -13,6 +13,10 @@ FUNCTIONS = {
                "can_draw": "(chain, drawing)", "single": "(chain)"},
     "repeats": {"repeated_ink": "(copy, drawing, times)", "first_within": "(copy, drawing, goal, times)"},
     "likeness": {"ways": "(one, other)", "symmetries": "(drawing)"},
+    "webs": {"pieces": "(drawing)", "regions": "(drawing)", "least_strokes": "(drawing)"},
+    "boxes": {"rows_for": "(box, copy)", "copy_count": "(box)", "needless_arms": "(box)",
+              "drawable_rows": "(box, drawing)", "row_to_draw": "(box, drawing, goal)"},
+    "poles": {"poles": "(turn, pairs, *, mirrored=False)"},
 }
 CLASSES = {
     ("copies", "Copy"): {
@@ -27,12 +31,16 @@ CLASSES = {
     ("chains", "Chain"): {
         "__init__": "(self, *arms)", "__len__": "(self)", "__getitem__": "(self, at)", "__add__": "(self, other)",
         "__eq__": "(self, other)", "draw": "(self, drawing)", "source": "(self, drawing)"},
+    ("guesses", "Guess"): {
+        "__init__": "(self, box, most)", "see": "(self, spot, answer)", "see_all": "(self, *facts)",
+        "answers": "(self, spot)", "best_spot": "(self, spots)"},
 }
 PROPERTIES = {
     ("copies", "Copy"): ("turn", "shift", "mirrored", "growth"),
     ("drawings", "Drawing"): ("strokes",),
     ("arms", "Arm"): ("pole", "turn", "near", "far", "mirrored", "effect"),
     ("chains", "Chain"): ("arms", "effect"),
+    ("guesses", "Guess"): ("candidates", "history", "copies_left"),
 }
 
 
