@@ -3,11 +3,10 @@
 from copyarms.arms import MOST_REACH, Arm, traced, traced_parts
 from copyarms.copies import kept, still_copy
 from copyarms.distances import is_from_to, square_between, squares_along
-from copyarms.errors import InvalidSize, OutOfReach, TooMany
-from copyarms.spots import MIDDLE, ascending_fractions, fraction, is_whole, spot_at
+from copyarms.errors import OutOfReach, TooMany
+from copyarms.spots import MIDDLE, ascending_fractions, check_limit, fraction, spot_at
 
 MOST_ARMS = 6
-MOST_LIMIT = 20
 
 
 class Chain:
@@ -83,8 +82,7 @@ def square_ahead(distance, growth):
 
 def reachable_spots(chain, limit):
     """The ascending list of all whole spots up to a limit that a chain can trace as dots."""
-    if not is_whole(limit) or not 0 <= limit <= MOST_LIMIT:
-        raise InvalidSize("not an integer from 0 to 20")
+    check_limit(limit)
     rings = zones(chain)
     numbers = list(range(-limit, limit + 1))
     return [(x, y, 1) for x in numbers for y in numbers if is_in_all((x, y, 1), rings)]

@@ -3,11 +3,12 @@
 A line is a tuple (a, b, c) for a * x + b * y = c, in the form that `line_form` returns.
 """
 
-from copyarms.errors import InvalidSpot, InvalidTurn
+from copyarms.errors import InvalidSize, InvalidSpot, InvalidTurn
 
 MIDDLE = (0, 0, 1)
 ONE = (1, 0, 1)
 UP = (0, 1, 1)
+MOST_LIMIT = 20
 
 
 def is_whole(value):
@@ -42,6 +43,12 @@ def check_turn(value):
     """Raise InvalidTurn for what is no turn."""
     if not is_spot(value) or value == MIDDLE:
         raise InvalidTurn("not a tuple of the form of a spot, other than (0, 0, 1)")
+
+
+def check_limit(limit):
+    """Raise InvalidSize unless a limit of whole spots is from 0 to 20."""
+    if not is_whole(limit) or not 0 <= limit <= MOST_LIMIT:
+        raise InvalidSize("not an integer from 0 to 20")
 
 
 def spot_at(x, y, d):

@@ -131,6 +131,53 @@ GUESSES = '''
 [3, [(), (0, 1), (1, 0)], 1, [None, (8, 0, 1)]]
 '''
 
+NOTATION = r'''
+>>> from copyarms.drawings import Drawing
+>>> from copyarms.notation import format_drawing, picture
+>>> [format_drawing(Drawing(((0, 0, 1), (1, -3, 2)), ((5, 5, 1),))), picture(Drawing(((-1, -1, 1), (1, 1, 1))), 1)]
+['0,0 1,-3,2 / 5,5', '..#\n.#.\n#..']
+
+>>> from copyarms.notation import parse_drawing
+>>> parse_drawing("0,0 / 2,2,2")
+raises BadText(row=0, word=2)
+'''
+
+SCRIPTS = r'''
+>>> from copyarms.scripts import Script
+>>> script = Script("arm a 0,0 2,0 0 9\nink b 1,0 2,0\ncopy c b a\njoin d b c")
+>>> [script.names, script.drawing("c").strokes, script.needs("c"), script.drawing("d").ink()]
+[['b', 'c', 'd'], (((2, 0, 1), (4, 0, 1)),), [0, 1, 2], ((), (((1, 0, 1), (4, 0, 1)),))]
+
+>>> from copyarms.scripts import Script
+>>> Script("ink b 1,0\ncopy c b a")
+raises BadRow(row=1, reason='name')
+'''
+
+CODES = r'''
+>>> from copyarms.codes import encode
+>>> from copyarms.drawings import Drawing
+>>> encode(Drawing(((0, -300, 1),)))
+[67, 1, 1, 0, 0, 1, 2, 1, 44, 0, 1, 1, 241]
+
+>>> from copyarms.codes import decode
+>>> decode([67, 1, 1, 0, 1, 0])
+raises InvalidCode(place=5)
+'''
+
+TABLES = r'''
+>>> from copyarms.arms import Arm
+>>> from copyarms.drawings import Drawing
+>>> from copyarms.tables import Table
+>>> table = Table((Arm((0, 0, 1), (2, 0, 1), 0, 9),))
+>>> [table.take(0), table.draw(Drawing(((1, 0, 1), (2, 0, 1)))).strokes, table.undo(), table.sheet(), table.operations]
+[1, (((2, 0, 1), (4, 0, 1)),), True, ((), ()), ['take']]
+
+>>> from copyarms.arms import Arm
+>>> from copyarms.tables import Table
+>>> Table((Arm((0, 0, 1), (2, 0, 1), 0, 9),)).drop()
+raises NotFree
+'''
+
 
 def outcome(rows):
     """What the last of some rows gives, written as the document writes it."""
@@ -181,3 +228,15 @@ class Examples(unittest.TestCase):
 
     def test_guesses(self):
         self.check(GUESSES, 1)
+
+    def test_notation(self):
+        self.check(NOTATION, 2)
+
+    def test_scripts(self):
+        self.check(SCRIPTS, 2)
+
+    def test_codes(self):
+        self.check(CODES, 2)
+
+    def test_tables(self):
+        self.check(TABLES, 2)

@@ -17,6 +17,8 @@ FUNCTIONS = {
     "boxes": {"rows_for": "(box, copy)", "copy_count": "(box)", "needless_arms": "(box)",
               "drawable_rows": "(box, drawing)", "row_to_draw": "(box, drawing, goal)"},
     "poles": {"poles": "(turn, pairs, *, mirrored=False)"},
+    "notation": {"format_drawing": "(drawing)", "parse_drawing": "(text)", "picture": "(drawing, limit)"},
+    "codes": {"encode": "(drawing)", "decode": "(items)"},
 }
 CLASSES = {
     ("copies", "Copy"): {
@@ -34,6 +36,13 @@ CLASSES = {
     ("guesses", "Guess"): {
         "__init__": "(self, box, most)", "see": "(self, spot, answer)", "see_all": "(self, *facts)",
         "answers": "(self, spot)", "best_spot": "(self, spots)"},
+    ("scripts", "Script"): {
+        "__init__": "(self, text)", "__len__": "(self)", "drawing": "(self, name)", "needs": "(self, name)",
+        "needed_text": "(self, name)"},
+    ("tables", "Table"): {
+        "__init__": "(self, box)", "take": "(self, number)", "drop": "(self)", "draw": "(self, drawing)",
+        "wipe": "(self)", "undo": "(self)", "redo": "(self)", "sheet": "(self)", "save": "(self, name)",
+        "restore": "(self, name)", "batch": "(self, operations)"},
 }
 PROPERTIES = {
     ("copies", "Copy"): ("turn", "shift", "mirrored", "growth"),
@@ -41,6 +50,8 @@ PROPERTIES = {
     ("arms", "Arm"): ("pole", "turn", "near", "far", "mirrored", "effect"),
     ("chains", "Chain"): ("arms", "effect"),
     ("guesses", "Guess"): ("candidates", "history", "copies_left"),
+    ("scripts", "Script"): ("text", "names", "arm_names"),
+    ("tables", "Table"): ("arms_joined", "operations"),
 }
 
 
@@ -67,3 +78,8 @@ class Interface(unittest.TestCase):
         for (name, kind), names in PROPERTIES.items():
             for attribute in names:
                 self.assertIsInstance(vars(getattr(module(name), kind))[attribute], property, (kind, attribute))
+
+    def test_the_class_method(self):
+        found = vars(module("tables").Table)["replay"]
+        self.assertIsInstance(found, classmethod)
+        self.assertEqual(str(inspect.signature(found.__func__)), "(cls, box, operations)")
