@@ -51,7 +51,8 @@ class Guess:
         check_spot(spot)
         found = counted_answers(self.stock, self.left, spot)
         nothing = [None] if None in found else []
-        return [*nothing, *ascending([answer for answer in found if answer is not None])]
+        spots = ascending([answer for answer in found if answer is not None])
+        return [*nothing, *spots]
 
     def best_spot(self, spots):
         """The index of the first spot whose answer leaves the fewest candidates in the worst case."""

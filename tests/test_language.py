@@ -111,6 +111,24 @@ class Language(unittest.TestCase):
             used = node.func if isinstance(node, ast.Call) else node.value
             self.assertFalse(isinstance(used, ast.Attribute) and used.attr in properties, (name, node.lineno))
 
+    def test_stars_stand_before_names_and_attributes(self):
+        for name, node in nodes(ast.Starred):
+            self.assertIsInstance(node.value, (ast.Name, ast.Attribute), (name, node.lineno))
+
+    def test_python_errors_are_not_caught_and_errors_are_created_on_the_spot(self):
+        own = {node.name for name, node in nodes(ast.ClassDef) if name == "errors.py"}
+        for name, node in nodes(ast.ExceptHandler):
+            self.assertIn(ast.unparse(node.type), own, (name, node.lineno))
+        for name, node in nodes(ast.Raise):
+            if node.exc is not None:
+                self.assertIn(ast.unparse(node.exc.func), own | {"TypeError"}, (name, node.lineno))
+
+    def test_no_sort_and_no_set(self):
+        for name, node in nodes((ast.Set, ast.SetComp, ast.Attribute, ast.Name)):
+            self.assertFalse(isinstance(node, (ast.Set, ast.SetComp)), (name, node.lineno))
+            self.assertNotEqual(getattr(node, "attr", ""), "sort", (name, node.lineno))
+            self.assertNotIn(getattr(node, "id", ""), ("set", "frozenset"), (name, node.lineno))
+
     def test_no_two_files_import_from_each_other(self):
         waiting = {name: {node.module.removeprefix("copyarms.") + ".py" for node in ast.walk(tree)
                           if isinstance(node, ast.ImportFrom)} for name, tree in TREES.items()}
